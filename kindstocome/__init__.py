@@ -1,0 +1,1 @@
+"""Choices by tests of kinds, for all kinds yet to come."""

@@ -1,0 +1,10 @@
+"""The limits of the package."""
+
+MAX_ANSWER = 9
+MAX_EDITS = 30
+MAX_KINDS = 6
+MAX_NEEDS = 3
+MAX_NEW = 4
+MAX_ROWS = 6
+MAX_TESTS = 12
+MAX_WISHES = 3

@@ -1,0 +1,68 @@
+"""The interface section of the document, as far as it is built."""
+
+import ast
+import inspect
+import pathlib
+import unittest
+
+from kindstocome import errors, hierarchies
+
+PACKAGE = pathlib.Path(__file__).resolve().parent.parent / "kindstocome"
+
+DEFINED = {
+    "errors": [
+        "KindError", "Against", "BadChoice", "BadEdits", "BadKinds", "BadText", "BadTree", "BadWishes", "Full",
+        "Idle", "NothingToUndo", "Rejected", "TooMany", "NoKind",
+    ],
+    "hierarchies": ["Kinds"],
+}
+
+METHODS = {
+    "above": ["kind"], "is_under": ["one", "other"], "heirs": ["kind"], "opened": [], "closing": ["some"],
+    "opening": ["some"],
+}
+
+
+def parameters(function):
+    return list(inspect.signature(function).parameters)
+
+
+class TestInterface(unittest.TestCase):
+    def test_defined_in_their_files(self):
+        for module, names in DEFINED.items():
+            tree = ast.parse((PACKAGE / f"{module}.py").read_text())
+            found = [node.name for node in tree.body if isinstance(node, (ast.ClassDef, ast.FunctionDef))]
+            for name in names:
+                self.assertEqual(found.count(name), 1, name)
+
+    def test_limits_are_assigned_in_bounds(self):
+        tree = ast.parse((PACKAGE / "bounds.py").read_text())
+        names = [node.targets[0].id for node in tree.body if isinstance(node, ast.Assign)]
+        self.assertEqual(names, [
+            "MAX_ANSWER", "MAX_EDITS", "MAX_KINDS", "MAX_NEEDS", "MAX_NEW", "MAX_ROWS", "MAX_TESTS", "MAX_WISHES"])
+
+    def test_arguments_of_kinds(self):
+        self.assertEqual(parameters(hierarchies.Kinds), ["elders", "closed", "hollow", "several"])
+        for name, arguments in METHODS.items():
+            method = vars(hierarchies.Kinds)[name]
+            self.assertEqual(parameters(method)[1:], arguments, name)
+
+    def test_kinds_defines_its_own(self):
+        own = vars(hierarchies.Kinds)
+        for name in ("elders", "closed", "hollow", "several"):
+            self.assertIsInstance(own[name], property, name)
+            self.assertIsNone(own[name].fset, name)
+        for name in ("__len__", "__eq__", "__str__"):
+            self.assertIn(name, own)
+
+    def test_arguments_of_errors(self):
+        arguments = {
+            "Against": ["index", "lot"], "BadEdits": ["index"], "BadKinds": ["place"], "BadText": ["line", "code"],
+            "BadTree": ["place"], "Rejected": ["index", "error"], "TooMany": ["limit"], "NoKind": ["kind"],
+        }
+        for name, wanted in arguments.items():
+            self.assertEqual(parameters(getattr(errors, name).__init__)[1:], wanted, name)
+
+
+if __name__ == "__main__":
+    unittest.main()

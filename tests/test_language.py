@@ -1,0 +1,154 @@
+"""The rules of the language that can be told by looking at the files one by one."""
+
+import ast
+import builtins
+import pathlib
+import re
+import unittest
+import warnings
+
+PACKAGE = pathlib.Path(__file__).resolve().parent.parent / "kindstocome"
+
+BUILTINS = set(
+    "len range enumerate zip min max sum abs sorted reversed int str bool bytes list tuple dict set frozenset "
+    "isinstance ord repr any all divmod iter next property super staticmethod classmethod Exception ValueError "
+    "TypeError KeyError IndexError LookupError ZeroDivisionError ArithmeticError OverflowError RuntimeError "
+    "NotImplementedError AttributeError StopIteration NotImplemented".split())
+
+DOUBLE = set("__init__ __eq__ __repr__ __str__ __len__ __enter__ __exit__ __call__ __iter__".split())
+
+WORDS = (
+    "type typing typing_extensions enum Enum IntEnum StrEnum Flag IntFlag Generic Protocol ABC ABCMeta namedtuple "
+    "NamedTuple TypedDict TYPE_CHECKING abstractmethod").split()
+
+UNUSED = set(
+    "register mro elements open input law version_info with_traceback add_note attrgetter breakpoint builtins compile "
+    "copyright credits delattr dir eval exec exit gc getattr globals hasattr help id importlib license locals "
+    "methodcaller os quit setattr type vars sys format format_map".split())
+
+WANT_LISTS = ("any", "all", "min", "max", "sum", "sorted")
+
+BARRED = (
+    ast.Global, ast.AsyncFunctionDef, ast.AsyncFor, ast.AsyncWith, ast.Await, ast.Import, ast.Div, ast.MatMult,
+)
+
+
+def files():
+    return sorted(PACKAGE.glob("*.py"))
+
+
+def trees():
+    return [(path.name, ast.parse(path.read_text())) for path in files()]
+
+
+def nodes():
+    for name, tree in trees():
+        for node in ast.walk(tree):
+            yield f"{name}:{getattr(node, 'lineno', 0)}", node
+
+
+class TestFiles(unittest.TestCase):
+    def test_the_folder_holds_files_of_python_alone(self):
+        for path in PACKAGE.iterdir():
+            if path.name != "__pycache__":
+                self.assertRegex(path.name, r"^[a-z_][a-z0-9_]*\.py$")
+        self.assertTrue((PACKAGE / "__init__.py").is_file())
+
+    def test_characters_and_sizes(self):
+        for path in files():
+            text = path.read_text()
+            self.assertRegex(text, r"\A[ -~\n]*\Z", path.name)
+            self.assertLessEqual(len(text.splitlines()), 399, path.name)
+            self.assertLessEqual(max(len(line) for line in text.splitlines()), 120, path.name)
+
+    def test_words(self):
+        pattern = r"\b(" + "|".join(WORDS) + r")\b|dataclass|overload|contextmanager"
+        for path in files():
+            self.assertIsNone(re.search(pattern, path.read_text()), path.name)
+
+    def test_no_warnings(self):
+        for path in files():
+            with warnings.catch_warnings():
+                warnings.simplefilter("error")
+                compile(path.read_text(), path.name, "exec")
+
+
+class TestNodes(unittest.TestCase):
+    def test_statements_and_signs(self):
+        for at, node in nodes():
+            self.assertNotIsInstance(node, BARRED, at)
+            if isinstance(node, ast.Constant):
+                self.assertNotIsInstance(node.value, (float, complex), at)
+                if isinstance(node.value, str):
+                    self.assertNotIn("%", node.value, at)
+
+    def test_short_functions(self):
+        for at, node in nodes():
+            if isinstance(node, ast.FunctionDef):
+                self.assertLessEqual(node.end_lineno - node.lineno + 1, 40, at)
+
+    def test_imports(self):
+        for at, node in nodes():
+            if isinstance(node, ast.ImportFrom):
+                self.assertEqual(node.level, 0, at)
+                module = node.module.split(".")
+                self.assertEqual((len(module), module[0]), (2, "kindstocome"), at)
+                self.assertTrue((PACKAGE / f"{module[1]}.py").is_file(), at)
+
+    def test_is(self):
+        for at, node in nodes():
+            if isinstance(node, ast.Compare):
+                for sign, right in zip(node.ops, node.comparators):
+                    if isinstance(sign, (ast.Is, ast.IsNot)):
+                        self.assertIsInstance(right, ast.Constant, at)
+                        self.assertIn(right.value, (None, True, False), at)
+
+    def test_lists_where_a_class_has_eq(self):
+        for at, node in nodes():
+            if isinstance(node, ast.Call) and isinstance(node.func, ast.Name) and node.func.id in WANT_LISTS:
+                for argument in node.args:
+                    self.assertNotIsInstance(argument, ast.GeneratorExp, at)
+            if isinstance(node, ast.Attribute):
+                self.assertNotEqual(node.attr, "sort", at)
+
+
+class TestNames(unittest.TestCase):
+    def test_builtins(self):
+        for at, node in nodes():
+            if isinstance(node, ast.Name) and node.id in vars(builtins):
+                self.assertIn(node.id, BUILTINS, at)
+                self.assertIsInstance(node.ctx, ast.Load, at)
+            for name in self.bound(node):
+                self.assertNotIn(name, vars(builtins), at)
+
+    def test_plain_names(self):
+        for at, node in nodes():
+            for name in [*self.bound(node), *self.attributes(node)]:
+                self.assertNotIn(name, UNUSED, at)
+                self.assertTrue(name in DOUBLE or not name.startswith("_"), (at, name))
+
+    def test_no_method_is_an_attribute_elsewhere(self):
+        methods, stored = set(), set()
+        for at, node in nodes():
+            if isinstance(node, ast.ClassDef):
+                methods.update(item.name for item in node.body if isinstance(item, ast.FunctionDef))
+            if isinstance(node, ast.Attribute) and isinstance(node.ctx, ast.Store):
+                stored.add(node.attr)
+        self.assertEqual(methods & stored, set())
+
+    def bound(self, node):
+        """The names that a node binds."""
+        if isinstance(node, (ast.FunctionDef, ast.ClassDef)):
+            return [node.name]
+        if isinstance(node, ast.arg):
+            return [node.arg]
+        if isinstance(node, ast.Name) and isinstance(node.ctx, ast.Store):
+            return [node.id]
+        return []
+
+    def attributes(self, node):
+        return [node.attr] if isinstance(node, ast.Attribute) else []
+
+
+if __name__ == "__main__":
+    unittest.main()
