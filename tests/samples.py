@@ -1,5 +1,7 @@
 """Values that several test files use."""
 
+import unittest
+
 from kindstocome.errors import BadKinds
 from kindstocome.hierarchies import Kinds
 
@@ -54,3 +56,63 @@ def subsets(items):
     for item in items:
         out = out + [some + (item,) for some in out]
     return out
+
+
+# The T and the R of the document's examples.
+TREE = (1, (2, 7, 5), (2, 6, 0))
+ROWS = ((((1, True),), 5), (((2, True),), 6))
+
+# Put into the place of a part of a right value, each of these tells whether the part is looked at.
+STRANGE = (None, True, False, -1, 0, 1, 5, 6, 9, 10, BIG, "", "0", (), (0,), (0, True), (0, 1, 2), [], [0], {}, {0: 1})
+
+
+def variants(value):
+    """Values that differ from value at one place: a part replaced, left out or put in twice, or a list for a tuple."""
+    out = list(STRANGE)
+    if isinstance(value, tuple):
+        out.append(list(value))
+        for at, item in enumerate(value):
+            out.extend([value[:at] + value[at + 1:], value[:at] + (item, item) + value[at + 1:]])
+            out.append(value[:at] + value[at:][::-1])
+            out.extend([value[:at] + (other,) + value[at + 1:] for other in variants(item)])
+        out.extend([value + (strange,) for strange in STRANGE])
+    return out
+
+
+def kinds_told(kinds):
+    return (kinds.elders, kinds.closed, kinds.hollow, kinds.several)
+
+
+def picture(value):
+    """A value that is equal for equal values of the same classes at every depth alone."""
+    if isinstance(value, Kinds):
+        return ("Kinds", picture(kinds_told(value)))
+    if isinstance(value, (tuple, list)):
+        return (type(value).__name__, [picture(item) for item in value])
+    if isinstance(value, dict):
+        return ("dict", [(picture(key), picture(value[key])) for key in value])
+    return (type(value).__name__, str(value))
+
+
+def is_plain(value):
+    """Whether value is made of integers, True, False and None, with tuples at every depth."""
+    if type(value) is tuple:
+        return all(is_plain(item) for item in value)
+    return value is None or type(value) in (int, bool)
+
+
+class Asking(unittest.TestCase):
+    """A test whose calls are looked at for what holds of all functions."""
+
+    def ask(self, function, *arguments, **named):
+        """What the function returns: twice the same, made of plain values, with its arguments left as they are."""
+        ahead = picture([*arguments, *named.values()])
+        result = function(*arguments, **named)
+        self.assertEqual(picture(function(*arguments, **named)), picture(result))
+        self.assertEqual(picture([*arguments, *named.values()]), ahead)
+        self.assertTrue(is_plain(result), result)
+        return result
+
+    def is_so(self, function, kinds, value, wanted):
+        """Asks whether value is so; what is told is True or False itself."""
+        self.assertIs(self.ask(function, kinds, value), wanted, (function.__name__, kinds_told(kinds), value))

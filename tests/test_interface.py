@@ -1,6 +1,7 @@
 """The interface section of the document, as far as it is built."""
 
 import ast
+import importlib
 import inspect
 import pathlib
 import unittest
@@ -17,6 +18,24 @@ DEFINED = {
     "hierarchies": ["Kinds"],
 }
 
+FUNCTIONS = {
+    "lots": {
+        "is_extension": ["kinds", "value"], "lot_of": ["kinds", "extension", "number"],
+        "members": ["kinds", "extension"], "lots": ["kinds"], "witness": ["kinds", "lot"], "is_lot": ["kinds", "value"],
+    },
+    "choices": {
+        "is_tree": ["kinds", "value"], "tests": ["tree"], "depth": ["tree"], "is_rows": ["kinds", "value"],
+        "chosen": ["rows", "lot"], "answer": ["choice", "lot"], "answers": ["kinds", "choice"],
+        "where": ["kinds", "choice", "number"],
+    },
+    "comparing": {
+        "first_unlike": ["kinds", "one", "other"], "alike": ["kinds", "one", "other"],
+        "parts_at": ["kinds", "one", "other"], "first_part": ["kinds", "one", "other"], "reached": ["kinds", "rows"],
+        "reached_places": ["kinds", "tree"], "trimmed": ["kinds", "tree"], "first_clash": ["kinds", "rows"],
+        "spare": ["kinds", "rows"], "fewest_rows": ["kinds", "rows"],
+    },
+}
+
 METHODS = {
     "above": ["kind"], "is_under": ["one", "other"], "heirs": ["kind"], "opened": [], "closing": ["some"],
     "opening": ["some"],
@@ -29,7 +48,8 @@ def parameters(function):
 
 class TestInterface(unittest.TestCase):
     def test_defined_in_their_files(self):
-        for module, names in DEFINED.items():
+        functions = {module: list(FUNCTIONS[module]) for module in FUNCTIONS}
+        for module, names in {**DEFINED, **functions}.items():
             tree = ast.parse((PACKAGE / f"{module}.py").read_text())
             found = [node.name for node in tree.body if isinstance(node, (ast.ClassDef, ast.FunctionDef))]
             for name in names:
@@ -40,6 +60,17 @@ class TestInterface(unittest.TestCase):
         names = [node.targets[0].id for node in tree.body if isinstance(node, ast.Assign)]
         self.assertEqual(names, [
             "MAX_ANSWER", "MAX_EDITS", "MAX_KINDS", "MAX_NEEDS", "MAX_NEW", "MAX_ROWS", "MAX_TESTS", "MAX_WISHES"])
+
+    def test_arguments_of_functions(self):
+        for module, functions in FUNCTIONS.items():
+            found = importlib.import_module(f"kindstocome.{module}")
+            for name, arguments in functions.items():
+                function = getattr(found, name)
+                self.assertEqual((function.__module__, function.__name__), (f"kindstocome.{module}", name))
+                self.assertEqual(parameters(function), arguments, name)
+                for parameter in inspect.signature(function).parameters.values():
+                    self.assertIs(parameter.kind, inspect.Parameter.POSITIONAL_OR_KEYWORD, name)
+                    self.assertIs(parameter.default, inspect.Parameter.empty, name)
 
     def test_arguments_of_kinds(self):
         self.assertEqual(parameters(hierarchies.Kinds), ["elders", "closed", "hollow", "several"])

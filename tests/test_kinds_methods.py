@@ -2,19 +2,8 @@ import itertools
 import unittest
 
 from kindstocome.hierarchies import Kinds
-from samples import any_values, example, hierarchies, subsets
-
-
-def climb(elders, kind):
-    """The kinds under which kind lies, by walking all ways up."""
-    found = {kind}
-    for elder in elders[kind]:
-        found |= climb(elders, elder)
-    return found
-
-
-def told(kinds):
-    return (kinds.elders, kinds.closed, kinds.hollow, kinds.several)
+from oracles import climb
+from samples import any_values, example, hierarchies, kinds_told as told, subsets
 
 
 def flat(value):

@@ -1,4 +1,4 @@
-"""The rules of the language that can be told by looking at the files one by one."""
+"""The rules of the language that can be told by looking at the files one by one, and at their imports."""
 
 import ast
 import builtins
@@ -71,6 +71,57 @@ class TestFiles(unittest.TestCase):
             with warnings.catch_warnings():
                 warnings.simplefilter("error")
                 compile(path.read_text(), path.name, "exec")
+
+
+class TestImports(unittest.TestCase):
+    """What the imports of all files show together."""
+
+    def imported(self, tree):
+        """The pairs (module, name) that a file imports."""
+        out = []
+        for node in tree.body:
+            if isinstance(node, ast.ImportFrom):
+                out.extend((node.module.split(".")[1], alias.name) for alias in node.names)
+        return out
+
+    def defined(self, tree):
+        names = [node.name for node in tree.body if isinstance(node, (ast.FunctionDef, ast.ClassDef))]
+        return names + [node.targets[0].id for node in tree.body if isinstance(node, ast.Assign)]
+
+    def test_from_the_very_file_that_defines_the_name(self):
+        by_file = dict(trees())
+        for file, tree in by_file.items():
+            for module, name in self.imported(tree):
+                self.assertIn(name, self.defined(by_file[f"{module}.py"]), file)
+
+    def test_bound_once(self):
+        for file, tree in trees():
+            names = self.defined(tree) + [name for module, name in self.imported(tree)]
+            self.assertEqual(len(names), len(set(names)), file)
+
+    def test_all_are_used(self):
+        for file, tree in trees():
+            read = {node.id for node in ast.walk(tree) if isinstance(node, ast.Name)}
+            for module, name in self.imported(tree):
+                self.assertIn(name, read, file)
+
+    def test_not_in_a_circle(self):
+        ahead = {file[:-3]: {module for module, name in self.imported(tree)} for file, tree in trees()}
+        while ahead:
+            free = [module for module in ahead if not ahead[module] & set(ahead)]
+            self.assertNotEqual(free, [], ahead)
+            for module in free:
+                del ahead[module]
+
+    def test_no_local_name_is_that_of_a_function_class_or_import_of_its_file(self):
+        for file, tree in trees():
+            taken = set(self.defined(tree) + [name for module, name in self.imported(tree)])
+            for function in [node for node in ast.walk(tree) if isinstance(node, (ast.FunctionDef, ast.Lambda))]:
+                for node in ast.walk(function):
+                    if isinstance(node, ast.arg):
+                        self.assertNotIn(node.arg, taken, file)
+                    if isinstance(node, ast.Name) and isinstance(node.ctx, ast.Store):
+                        self.assertNotIn(node.id, taken, file)
 
 
 class TestNodes(unittest.TestCase):
