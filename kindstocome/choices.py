@@ -64,6 +64,11 @@ def is_rows(kinds, value):
     return all([is_row(kinds, item) for item in value])
 
 
+def is_choice(kinds, value):
+    """Whether value is a tree or rows of these kinds."""
+    return is_tree(kinds, value) or is_rows(kinds, value)
+
+
 def needs_hold(needs, lot):
     """Whether all these needs hold of a lot."""
     return all([(kind in lot) == wished for kind, wished in needs])

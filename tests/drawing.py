@@ -60,6 +60,28 @@ class Draw:
             return self.tree(kinds, self.below(8))
         return self.rows(kinds, self.below(7))
 
+    def offers(self, kinds):
+        return tuple((kind, self.below(3)) for kind in self.some(range(len(kinds)), len(kinds)))
+
+    def changed(self, kinds, choice):
+        """A choice that is a little unlike another: with one test more, or without a row."""
+        if isinstance(choice, int) or (choice and isinstance(choice[0], int)):
+            return (self.below(len(kinds)), choice, self.tree(kinds, self.below(2)))
+        at = self.below(len(choice) + 1)
+        return choice[:at] + choice[at + 1:]
+
+    def wish(self, kinds):
+        """A wish of one of the five words."""
+        word = self.one(("alike", "never", "clear", "full", "any order"))
+        if word == "alike":
+            one = self.choice(kinds)
+            return (word, one, self.changed(kinds, one))
+        if word == "never":
+            return (word, self.choice(kinds), self.below(3))
+        if word == "any order":
+            return (word, self.rows(kinds, self.below(7)))
+        return (word, self.offers(kinds))
+
 
 def drawn(seed, times):
     """So many pairs of drawn kinds and the draw with which to go on."""

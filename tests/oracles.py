@@ -142,3 +142,96 @@ def choice_told(choice, lot):
     if type(choice) is int or (choice and type(choice[0]) is int):
         return tree_walk(choice, lot)[0]
     return rows_told(choice, lot)
+
+
+def right_choice(kinds, value):
+    return right_tree(kinds, value) or right_rows(kinds, value)
+
+
+def right_offers(kinds, value):
+    if type(value) is not tuple or len(value) > 6:
+        return False
+    for offer in value:
+        if type(offer) is not tuple or len(offer) != 2:
+            return False
+        if not is_integer_below(offer[0], len(kinds.elders)) or not is_integer_below(offer[1], 10):
+            return False
+    return [offer[0] for offer in value] == sorted({offer[0] for offer in value})
+
+
+WISH_PARTS = {
+    "alike": (right_choice, right_choice),
+    "never": (right_choice, lambda kinds, value: is_integer_below(value, 10)),
+    "clear": (right_offers,),
+    "full": (right_offers,),
+    "any order": (right_rows,),
+}
+
+
+def right_wish(kinds, value):
+    if type(value) is not tuple or value == () or type(value[0]) is not str or value[0] not in WISH_PARTS:
+        return False
+    wanted = WISH_PARTS[value[0]]
+    return len(value) == len(wanted) + 1 and all(right(kinds, part) for right, part in zip(wanted, value[1:]))
+
+
+def looked_up_nearest(kinds, offers, lot):
+    """The nearest ones by the words of point 12, looked up one by one."""
+    out = []
+    for kind, number in offers:
+        if kind not in lot:
+            continue
+        under = [
+            other for other, unused in offers
+            if other in lot and other != kind and kind in climb(kinds.elders, other)]
+        if under == []:
+            out.append(kind)
+    return tuple(out)
+
+
+def nearest_told(kinds, offers, lot):
+    """The set of the answers of the nearest ones."""
+    return {dict(offers)[kind] for kind in looked_up_nearest(kinds, offers, lot)}
+
+
+def rows_holding(rows, lot):
+    return [number for needs, number in rows if all((kind in lot) is wished for kind, wished in needs)]
+
+
+AGAINST = {
+    "alike": lambda kinds, lot, one, other: choice_told(one, lot) != choice_told(other, lot),
+    "never": lambda kinds, lot, choice, number: choice_told(choice, lot) == number,
+    "clear": lambda kinds, lot, offers: len(nearest_told(kinds, offers, lot)) > 1,
+    "full": lambda kinds, lot, offers: len(nearest_told(kinds, offers, lot)) == 0,
+    "any order": lambda kinds, lot, rows: any(
+        one != other for one, other in itertools.combinations(rows_holding(rows, lot), 2)),
+}
+
+
+def looked_up_against(kinds, wish, lot):
+    """Whether a lot is against a wish, by the words of point 14."""
+    return AGAINST[wish[0]](kinds, lot, *wish[1:])
+
+
+def tried_against(kinds, wish):
+    """The first of lots that is against a wish."""
+    for lot in tried_lots(kinds):
+        if looked_up_against(kinds, wish, lot):
+            return lot
+    return None
+
+
+def with_closed(kinds, some):
+    return Kinds(kinds.elders, tuple(sorted(set(kinds.closed) | set(some))), kinds.hollow, kinds.several)
+
+
+def enough_closings(kinds, wish):
+    """All sets of kinds that are not closed that are enough for a wish, by length, then ascending."""
+    left = [kind for kind in range(len(kinds.elders)) if kind not in kinds.closed]
+    every = [some for many in range(len(left) + 1) for some in itertools.combinations(left, many)]
+    return [some for some in every if tried_against(with_closed(kinds, some), wish) is None]
+
+
+def tried_closings(kinds, wish):
+    enough = enough_closings(kinds, wish)
+    return tuple(some for some in enough if not any(set(less) < set(some) for less in enough))

@@ -34,6 +34,18 @@ FUNCTIONS = {
         "reached_places": ["kinds", "tree"], "trimmed": ["kinds", "tree"], "first_clash": ["kinds", "rows"],
         "spare": ["kinds", "rows"], "fewest_rows": ["kinds", "rows"],
     },
+    "nearest": {
+        "is_offers": ["kinds", "value"], "nearest": ["kinds", "offers", "lot"], "first_unclear": ["kinds", "offers"],
+        "first_missing": ["kinds", "offers"], "as_rows": ["kinds", "offers"],
+    },
+    "wishes": {
+        "is_wish": ["kinds", "value"], "first_against": ["kinds", "wish"], "keeps": ["kinds", "wish"],
+        "closings": ["kinds", "wish"],
+    },
+    "trees": {
+        "smallest": ["kinds", "choice"], "fewest_tests": ["kinds", "choice"], "least_depth": ["kinds", "choice"],
+        "first_tests": ["kinds", "choice"],
+    },
 }
 
 METHODS = {
