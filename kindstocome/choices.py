@@ -1,7 +1,7 @@
 """Choices: trees of tests, and rows of needs, with their answers of lots."""
 
 from kindstocome.bounds import MAX_ANSWER, MAX_NEEDS, MAX_ROWS, MAX_TESTS
-from kindstocome.checks import is_ascending, is_index, is_number, is_pair
+from kindstocome.checks import is_ascending, is_bool, is_index, is_number, is_pair
 from kindstocome.lots import lots
 
 
@@ -40,7 +40,7 @@ def depth(tree):
 
 def is_need(value):
     """Whether value is a pair of anything and of True or False."""
-    return is_pair(value) and (value[1] is True or value[1] is False)
+    return is_pair(value) and is_bool(value[1])
 
 
 def are_needs(kinds, value):

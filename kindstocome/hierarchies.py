@@ -1,7 +1,7 @@
 """Hierarchies of kinds: which kinds lie under which, closed or hollow or not."""
 
 from kindstocome.bounds import MAX_KINDS
-from kindstocome.checks import is_ascending
+from kindstocome.checks import is_ascending, is_bool
 from kindstocome.errors import BadKinds
 
 
@@ -32,7 +32,7 @@ def wrong_place(elders, closed, hollow, several):
         return "closed"
     if not is_ascending(hollow, len(elders)):
         return "hollow"
-    if several is not True and several is not False:
+    if not is_bool(several):
         return "several"
     return None
 

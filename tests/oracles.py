@@ -1,4 +1,4 @@
-"""What the document says, found in other ways than the program's: by its words one after the other, or by trying all."""
+"""What the document says, found in other ways than the program finds it: by its words, or by trying all."""
 
 import itertools
 

@@ -2,8 +2,9 @@
 
 import unittest
 
-from kindstocome.errors import BadKinds
+from kindstocome.errors import BadKinds, KindError, NoKind
 from kindstocome.hierarchies import Kinds
+from kindstocome.shelves import LoggedShelf, Shelf, WishShelf
 
 BIG = 10 ** 39
 
@@ -29,6 +30,7 @@ def any_values():
         tuple(range(3000)), list(range(3000)), ((),) * 7, ((),) * 3000,
         nested(19, lambda inner: (inner,)), nested(19, lambda inner: [inner]), nested(19, lambda inner: {"a": inner}),
         example(), (example(),), (0, example()), [example()], {"k": example()}, BadKinds("elders"), (BadKinds(0),),
+        Shelf(example(), 0), (Shelf(example(), 0),), [WishShelf(example(), 0, ())], (0, LoggedShelf(example(), 0), 1),
     ]
 
 
@@ -87,6 +89,10 @@ def picture(value):
     """A value that is equal for equal values of the same classes at every depth alone."""
     if isinstance(value, Kinds):
         return ("Kinds", picture(kinds_told(value)))
+    if isinstance(value, Shelf):
+        return shelf_picture(value)
+    if isinstance(value, (KindError, NoKind)):
+        return (type(value).__name__, [picture(field) for field in vars(value).values()])
     if isinstance(value, (tuple, list)):
         return (type(value).__name__, [picture(item) for item in value])
     if isinstance(value, dict):
@@ -94,11 +100,36 @@ def picture(value):
     return (type(value).__name__, str(value))
 
 
+def shelf_picture(shelf):
+    """All that a shelf tells of itself."""
+    more = shelf.wishes if isinstance(shelf, WishShelf) else shelf.log if isinstance(shelf, LoggedShelf) else ()
+    told = (shelf.kinds, shelf.choice, shelf.version, shelf.news, more, str(shelf))
+    return (type(shelf).__name__, picture(told))
+
+
+def outcome(function, *arguments, **named):
+    """A picture of what a call returns, or of the error of this package that it raises."""
+    try:
+        return ("told", picture(function(*arguments, **named)))
+    except (KindError, NoKind) as error:
+        return ("raised", picture(error))
+
+
+def raised(name, *fields):
+    """The outcome of a call that raises the error with this name and these fields."""
+    return ("raised", (name, [picture(field) for field in fields]))
+
+
+def returned(value):
+    """The outcome of a call that returns this value."""
+    return ("told", picture(value))
+
+
 def is_plain(value):
-    """Whether value is made of integers, True, False and None, with tuples at every depth."""
+    """Whether value is made of integers, strings, True, False and None, with tuples at every depth."""
     if type(value) is tuple:
         return all(is_plain(item) for item in value)
-    return value is None or type(value) in (int, bool)
+    return value is None or type(value) in (int, bool, str)
 
 
 class Asking(unittest.TestCase):

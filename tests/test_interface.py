@@ -1,4 +1,4 @@
-"""The interface section of the document, as far as it is built."""
+"""The interface section of the document: names, arguments and files, and calls by name."""
 
 import ast
 import importlib
@@ -6,7 +6,8 @@ import inspect
 import pathlib
 import unittest
 
-from kindstocome import errors, hierarchies
+from kindstocome import desks, errors, hierarchies, shelves
+from samples import ROWS, TREE, example, outcome
 
 PACKAGE = pathlib.Path(__file__).resolve().parent.parent / "kindstocome"
 
@@ -16,6 +17,8 @@ DEFINED = {
         "Idle", "NothingToUndo", "Rejected", "TooMany", "NoKind",
     ],
     "hierarchies": ["Kinds"],
+    "shelves": ["Shelf", "WishShelf", "LoggedShelf"],
+    "desks": ["Desk"],
 }
 
 FUNCTIONS = {
@@ -46,11 +49,51 @@ FUNCTIONS = {
         "smallest": ["kinds", "choice"], "fewest_tests": ["kinds", "choice"], "least_depth": ["kinds", "choice"],
         "first_tests": ["kinds", "choice"],
     },
+    "releases": {
+        "is_later": ["kinds", "later"], "known_lots": ["kinds", "later"], "first_new": ["kinds", "later"],
+        "is_release": ["kinds", "later"], "breaks": ["kinds", "later", "wish"],
+    },
+    "texts": {
+        "kinds_text": ["kinds"], "read_kinds": ["value"], "tree_text": ["tree"], "read_tree": ["value"],
+    },
+}
+
+CLASSES = {
+    hierarchies.Kinds: ["elders", "closed", "hollow", "several"],
+    shelves.Shelf: ["kinds", "choice"],
+    shelves.WishShelf: ["kinds", "choice", "wishes"],
+    shelves.LoggedShelf: ["kinds", "choice"],
+    desks.Desk: ["shelf"],
+}
+
+PROPERTIES = {
+    hierarchies.Kinds: ["elders", "closed", "hollow", "several"],
+    shelves.Shelf: ["kinds", "choice", "version", "news"],
+    shelves.WishShelf: ["wishes"],
+    shelves.LoggedShelf: ["log"],
+    desks.Desk: ["history"],
 }
 
 METHODS = {
-    "above": ["kind"], "is_under": ["one", "other"], "heirs": ["kind"], "opened": [], "closing": ["some"],
-    "opening": ["some"],
+    hierarchies.Kinds: {
+        "above": ["kind"], "is_under": ["one", "other"], "heirs": ["kind"], "opened": [], "closing": ["some"],
+        "opening": ["some"], "__len__": [], "__eq__": ["other"], "__str__": [],
+    },
+    shelves.Shelf: {
+        "add": ["elders", "closed", "hollow"], "close": ["kind"], "reopen": ["kind"], "choose": ["value"], "undo": [],
+        "run": ["edits"], "twin": [], "__call__": ["lot"], "__eq__": ["other"], "__str__": [],
+    },
+    shelves.WishShelf: {},
+    shelves.LoggedShelf: {},
+    desks.Desk: {"say": ["line"]},
+}
+
+# A right value for each argument of each function.
+VALUES = {
+    "kinds": example(), "later": example().closing((0,)), "value": (0, 1, 2), "extension": ((1, 2),), "number": 5,
+    "lot": (0, 1, 2), "tree": TREE, "rows": ROWS, "choice": TREE, "one": TREE, "other": ROWS, "offers": ((1, 5), (2,
+    6)),
+    "wish": ("never", TREE, 7),
 }
 
 
@@ -84,19 +127,49 @@ class TestInterface(unittest.TestCase):
                     self.assertIs(parameter.kind, inspect.Parameter.POSITIONAL_OR_KEYWORD, name)
                     self.assertIs(parameter.default, inspect.Parameter.empty, name)
 
-    def test_arguments_of_kinds(self):
-        self.assertEqual(parameters(hierarchies.Kinds), ["elders", "closed", "hollow", "several"])
-        for name, arguments in METHODS.items():
-            method = vars(hierarchies.Kinds)[name]
-            self.assertEqual(parameters(method)[1:], arguments, name)
+    def test_arguments_of_classes(self):
+        for made, arguments in CLASSES.items():
+            self.assertEqual(parameters(made), arguments, made)
+            self.assertIn("__init__", vars(made))
 
-    def test_kinds_defines_its_own(self):
-        own = vars(hierarchies.Kinds)
-        for name in ("elders", "closed", "hollow", "several"):
-            self.assertIsInstance(own[name], property, name)
-            self.assertIsNone(own[name].fset, name)
-        for name in ("__len__", "__eq__", "__str__"):
-            self.assertIn(name, own)
+    def test_classes_define_their_own_methods(self):
+        for made, methods in METHODS.items():
+            for name, arguments in methods.items():
+                self.assertEqual(parameters(vars(made)[name])[1:], arguments, (made, name))
+                for parameter in inspect.signature(vars(made)[name]).parameters.values():
+                    self.assertIs(parameter.default, inspect.Parameter.empty, (made, name))
+
+    def test_classes_define_their_own_properties(self):
+        for made, names in PROPERTIES.items():
+            for name in names:
+                self.assertIsInstance(vars(made)[name], property, (made, name))
+                self.assertIsNone(vars(made)[name].fset, (made, name))
+
+    def test_bases(self):
+        self.assertEqual(shelves.WishShelf.__bases__, (shelves.Shelf,))
+        self.assertEqual(shelves.LoggedShelf.__bases__, (shelves.Shelf,))
+
+    def test_functions_called_by_name(self):
+        for module, functions in FUNCTIONS.items():
+            found = importlib.import_module(f"kindstocome.{module}")
+            for name, arguments in functions.items():
+                named = {argument: VALUES[argument] for argument in reversed(arguments)}
+                by_position = outcome(getattr(found, name), *[VALUES[argument] for argument in arguments])
+                self.assertEqual(outcome(getattr(found, name), **named), by_position, name)
+
+    def test_methods_called_by_name(self):
+        kinds = hierarchies.Kinds(several=True, hollow=(0,), closed=(4,), elders=example().elders)
+        self.assertEqual(kinds, example())
+        self.assertEqual((kinds.above(kind=3), kinds.heirs(kind=0)), ((0, 1, 2, 3), (1, 2, 4)))
+        self.assertIs(kinds.is_under(other=1, one=3), True)
+        self.assertEqual((kinds.closing(some=(0,)).closed, kinds.opening(some=(4,)).closed), ((0, 4), ()))
+        shelf = shelves.Shelf(choice=TREE, kinds=kinds)
+        self.assertEqual((shelf.add(hollow=False, closed=True, elders=(1,)), shelf.close(kind=1)), (1, 2))
+        self.assertEqual((shelf.reopen(kind=1), shelf.choose(value=ROWS), shelf.run(edits=())), (3, 4, 4))
+        self.assertEqual(shelf(lot=(0, 1, 2)), 5)
+        self.assertEqual(shelves.WishShelf(wishes=(), choice=TREE, kinds=kinds).wishes, ())
+        self.assertEqual(shelves.LoggedShelf(choice=TREE, kinds=kinds).log, ())
+        self.assertEqual(desks.Desk(shelf=shelf).say(line="undo"), "ok 3")
 
     def test_arguments_of_errors(self):
         arguments = {

@@ -26,6 +26,14 @@ UNUSED = set(
     "copyright credits delattr dir eval exec exit gc getattr globals hasattr help id importlib license locals "
     "methodcaller os quit setattr type vars sys format format_map".split())
 
+# The methods of builtin values that may be called; those that modify a set are left out, as Shelf has a method add.
+CALLED = set(
+    "append clear copy count endswith extend find get index insert isalnum isalpha isdigit islower isspace isupper "
+    "items join keys ljust lower lstrip partition pop remove replace reverse rfind rjust rpartition rsplit rstrip setdefault "
+    "split splitlines startswith strip update upper values zfill bit_length".split())
+
+CAUGHT = ("KeyError", "ZeroDivisionError")
+
 WANT_LISTS = ("any", "all", "min", "max", "sum", "sorted")
 
 BARRED = (
@@ -45,6 +53,22 @@ def nodes():
     for name, tree in trees():
         for node in ast.walk(tree):
             yield f"{name}:{getattr(node, 'lineno', 0)}", node
+
+
+def own_errors():
+    """The names of the error classes of the package."""
+    return [node.name for name, tree in trees() if name == "errors.py" for node in tree.body if hasattr(node, "bases")]
+
+
+def class_members():
+    """The names of the methods and properties of all classes, and those of the attributes that are assigned."""
+    methods, stored = set(), set()
+    for at, node in nodes():
+        if isinstance(node, ast.ClassDef):
+            methods.update(item.name for item in node.body if isinstance(item, ast.FunctionDef))
+        if isinstance(node, ast.Attribute) and isinstance(node.ctx, ast.Store):
+            stored.add(node.attr)
+    return methods, stored
 
 
 class TestFiles(unittest.TestCase):
@@ -154,6 +178,49 @@ class TestNodes(unittest.TestCase):
                         self.assertIsInstance(right, ast.Constant, at)
                         self.assertIn(right.value, (None, True, False), at)
 
+    def test_raise_creates_its_error_on_the_spot(self):
+        for at, node in nodes():
+            if isinstance(node, ast.Raise) and node.exc is not None:
+                self.assertIsInstance(node.exc, ast.Call, at)
+                self.assertIn(node.exc.func.id, own_errors(), at)
+                self.assertFalse(node.exc.keywords, at)
+
+    def test_own_errors_are_caught(self):
+        for at, node in nodes():
+            if isinstance(node, ast.ExceptHandler):
+                self.assertIsNotNone(node.type, at)
+                for caught in getattr(node.type, "elts", [node.type]):
+                    self.assertIn(caught.id, [*own_errors(), *CAUGHT], at)
+
+    def test_super_is_called_for_a_method(self):
+        for at, node in nodes():
+            for child in ast.iter_child_nodes(node):
+                if isinstance(child, ast.Call) and getattr(child.func, "id", None) == "super":
+                    self.assertEqual(child.args, [], at)
+                    self.assertIsInstance(node, ast.Attribute, at)
+
+    def test_stars_and_slices_of_calls(self):
+        for at, node in nodes():
+            if isinstance(node, ast.Call):
+                for argument in node.args:
+                    if isinstance(argument, ast.Starred):
+                        self.assertIsInstance(argument.value, ast.Name, at)
+
+    def test_comprehensions_stand_in_functions(self):
+        for file, tree in trees():
+            for statement in tree.body:
+                if not isinstance(statement, (ast.FunctionDef, ast.ClassDef)):
+                    for node in ast.walk(statement):
+                        self.assertNotIsInstance(node, (ast.ListComp, ast.SetComp, ast.DictComp, ast.GeneratorExp),
+                            file)
+
+    def test_iterated_at_once(self):
+        """zip, enumerate, reversed and range stand in the head of a loop, or as the one thing a builtin is passed."""
+        for at, node in nodes():
+            if isinstance(node, (ast.Assign, ast.Return)) and isinstance(node.value, ast.Call):
+                name = getattr(node.value.func, "id", None)
+                self.assertNotIn(name, ("zip", "enumerate", "reversed", "range", "set"), at)
+
     def test_lists_where_a_class_has_eq(self):
         for at, node in nodes():
             if isinstance(node, ast.Call) and isinstance(node.func, ast.Name) and node.func.id in WANT_LISTS:
@@ -179,13 +246,32 @@ class TestNames(unittest.TestCase):
                 self.assertTrue(name in DOUBLE or not name.startswith("_"), (at, name))
 
     def test_no_method_is_an_attribute_elsewhere(self):
-        methods, stored = set(), set()
+        methods, stored = class_members()
+        self.assertEqual(methods & stored, set())
+
+    def test_attributes_that_are_read(self):
+        methods, stored = class_members()
+        for at, node in nodes():
+            if isinstance(node, ast.Attribute) and isinstance(node.ctx, ast.Load):
+                self.assertIn(node.attr, methods | stored | CALLED, at)
+
+    def test_methods_that_are_called(self):
+        methods, stored = class_members()
+        for at, node in nodes():
+            if isinstance(node, ast.Call) and isinstance(node.func, ast.Attribute):
+                self.assertIn(node.func.attr, methods | CALLED, at)
+                if node.func.attr in CALLED:
+                    self.assertEqual(node.keywords, [], at)
+
+    def test_properties_are_no_methods_elsewhere(self):
+        plain, properties = set(), set()
         for at, node in nodes():
             if isinstance(node, ast.ClassDef):
-                methods.update(item.name for item in node.body if isinstance(item, ast.FunctionDef))
-            if isinstance(node, ast.Attribute) and isinstance(node.ctx, ast.Store):
-                stored.add(node.attr)
-        self.assertEqual(methods & stored, set())
+                for item in node.body:
+                    if isinstance(item, ast.FunctionDef):
+                        (properties if item.decorator_list else plain).add(item.name)
+        self.assertEqual(plain & properties, set())
+        self.assertEqual(properties & CALLED, set())
 
     def bound(self, node):
         """The names that a node binds."""
