@@ -28,7 +28,7 @@ def wrong_part(kinds, elders, closed, hollow):
     return None
 
 
-def with_kind(stand, elders, closed, hollow):
+def with_new_kind(stand, elders, closed, hollow):
     """A stand with one kind more."""
     kinds, choice = stand
     place = wrong_part(kinds, elders, closed, hollow)
@@ -68,7 +68,7 @@ def with_choice(stand, value):
     return (kinds, value)
 
 
-EDITS = {"add": with_kind, "close": with_closed, "reopen": with_reopened, "choose": with_choice}
+EDITS = {"add": with_new_kind, "close": with_closed, "reopen": with_reopened, "choose": with_choice}
 
 
 def edited(stand, edit):
